@@ -1,0 +1,1 @@
+"""Programs over vectors of four floats, run for many points."""
