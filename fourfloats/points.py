@@ -5,6 +5,9 @@ from fourfloats.machine import Machine
 BEGIN = 0
 LOAD = 1
 CONSTANT = 2
+TABLE = 3
+RUN = 4
+RUN_HALVES = 5
 
 
 class UnknownCall(ValueError):
@@ -57,4 +60,23 @@ def answer_of_call(machine, tape):
     if call == CONSTANT:
         k = tape.take_one()
         return machine.constant(k, tape.take_many(4))
+    if call == TABLE:
+        return answer_of_table(machine, tape)
+    if call == RUN or call == RUN_HALVES:
+        return answer_of_run(machine, tape, call)
     raise UnknownCall("no call has this number")
+
+
+def answer_of_table(machine, tape):
+    unit = tape.take_one()
+    w = tape.take_one()
+    h = tape.take_one()
+    how = tape.take_one()
+    return machine.table(unit, w, h, how, tape.take_row())
+
+
+def answer_of_run(machine, tape, call):
+    per = tape.take_one()
+    n = tape.take_one()
+    row = tape.take_row()
+    return machine.run(per, n, row) if call == RUN else machine.run_halves(per, n, row)
