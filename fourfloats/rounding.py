@@ -40,9 +40,10 @@ def whole_of(bits):
 
 
 def rounded(whole, exponent, digits, least):
-    """The bits next to whole times 2^exponent, which is above 0, with so many digits and none below 2^least.
+    """The bits next to whole times 2^exponent, with so many digits and none below 2^least.
 
-    What is past the greatest has bits at or past the infinity's.
+    whole isn't below 0, and is 0 only where exponent is at most least. What is past the greatest has bits at or
+    past the infinity's.
     """
     dropped = whole.bit_length() - digits
     if exponent + dropped < least:
@@ -71,8 +72,6 @@ def half_of(bits):
     if not is_number(bits):
         return NO_NUMBER_HALF
     sign = SIGN_HALF if bits & SIGN else 0
-    if is_zero(bits):
-        return sign
     if not is_finite(bits):
         return sign | INFINITY_HALF
     near = rounded(whole_of(bits & MAGNITUDE), LEAST, DIGITS_HALF, LEAST_HALF)

@@ -14,7 +14,6 @@ from fourfloats.rounding import single_of_half
 
 PLAIN = 0
 ONE_HALF = 0x3F000000
-NOT_THERE = (0, 0, 0, ONE)
 
 
 class Table:
@@ -66,4 +65,6 @@ def mixed(f, near, far):
 
 
 def read_table(table, x, y):
-    return NOT_THERE if table is None else table.read(x, y)
+    if table is None:
+        return (0, 0, 0, ONE)
+    return table.read(x, y)

@@ -76,8 +76,10 @@ class Package(unittest.TestCase):
                 if isinstance(node, ast.Expr):
                     self.assertIsInstance(node.value, ast.Constant, name)
                 if isinstance(node, ast.Assign):
+                    functions = node.value.values if isinstance(node.value, ast.Dict) else []
                     for inner in ast.walk(node.value):
                         self.assertIsInstance(inner, PLAIN_VALUES, f"{name}: {ast.unparse(node)}")
+                        self.assertTrue(not isinstance(inner, ast.Name) or inner in functions, ast.unparse(node))
 
     def test_each_top_name_once(self):
         for name, tree in trees():

@@ -27,10 +27,14 @@ class Taken(unittest.TestCase):
             self.assertEqual(told[3][0], flipped)
 
     def test_minus_of_each_operand(self):
-        told = results(lines("MAD o0,-v0,v1,-v1", "SUB o1,-v0,-v1", "CMP o2,-v0,-v1,v1", "DP3 o3,-v0,v1"),
-                       singles(1, 2, 3, 4), singles(5, 6, 7, 8))
-        self.assertEqual(told, [singles(-10, -18, -28, -40), singles(4, 4, 4, 4), singles(-5, -6, -7, -8),
-                                singles(-38, -38, -38, -38)])
+        a = singles(1, -2, 3, -4)
+        b = singles(-5, 6, 7, -8)
+        told = results(lines("MAD o0,-v0,v1,-v1", "SUB o1,-v0,-v1", "CMP o2,-v0,-v1,v1", "DP3 o3,-v0,v1"), a, b)
+        self.assertEqual(told, [singles(10, 6, -28, -24), singles(-6, 8, 4, -4), singles(5, 6, -7, -8),
+                                singles(-4, -4, -4, -4)])
+        told = results(lines("MAD o0,v0,-v1,v0", "CMP o1,v0,v1,-v1", "DP4 o2,v0,-v1", "XPD o3,-v0,-v1"), a, b)
+        self.assertEqual(told, [singles(6, 10, -18, -36), singles(5, 6, -7, -8), singles(-36, -36, -36, -36),
+                                singles(-32, -22, -4, 1)])
 
     def test_parts_in_names_of_vectors(self):
         told = results(lines("DP3 o0,v0.w,v1.wzyx", "DP4 o1,v0.xxxx,v1", "XPD o2,v0.yzxw,v1.yzxw", "KIL v0.x"),
