@@ -28,7 +28,7 @@ class Table:
         singles = [single_of_half(half) for half in halves]
         self.vectors = [tuple(singles[start:start + 4]) for start in range(0, len(singles), 4)]
 
-    def read(self, x, y):
+    def read_at(self, x, y):
         across = product(x, self.width_single)
         down = product(y, self.height_single)
         if self.how == PLAIN:
@@ -67,4 +67,4 @@ def mixed(f, near, far):
 def read_table(table, x, y):
     if table is None:
         return (0, 0, 0, ONE)
-    return table.read(x, y)
+    return table.read_at(x, y)
